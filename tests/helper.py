@@ -49,6 +49,16 @@ def last_number(*calls):
     return first_numbers(*calls)[-1]
 
 
+def answer_after(*calls):
+    """All numbers that the last call is answered."""
+    return split_answers(answers(flat(calls)))[-1]
+
+
+def placed(*places):
+    """Calls that begin and place these points: x, y, or x, y, w."""
+    return [("begin",)] + [("point", *place, 1) if len(place) == 2 else ("point", *place) for place in places]
+
+
 def triples_after(*calls):
     """The three numbers of every point behind these calls."""
     plane = Plane()

@@ -1,11 +1,8 @@
 """The interface: how calls are told, how answers are told, and that nothing is changed or kept."""
 
-import random
 import unittest
-from fractions import Fraction
-from math import lcm
 
-from helper import SAME_NINE, SAME_SLANT, flat, places_after, split_answers
+from helper import SAME_NINE, SAME_SLANT, answer_after, flat, placed, split_answers
 
 from pointsayings.plane import answers
 
@@ -20,6 +17,22 @@ STORY = [
 STORY_ANSWERS = [
     1, -61, 1, 0, 1, 0, 1, 1, 1, -22, 1, 0, 1, 0, 1, -22, 1, 0, 1, -2, 1, 2, 1, 1, 1, 0, 1, -2, 1, 0, 1, 0, 1, 0,
 ]
+
+LOOKS = placed((0, 0), (2, 0), (0, 2), (2, 2), (1, 0), (4, 0)) + [
+    ("where", 4), ("says", 10, [4, 0, 1]), ("says", 0, [0, 1]), ("says", 5, [0, 1, 0, 4, 2, 1]), ("all", 10),
+    ("all", 0), ("most", 1), ("most", 6), ("keeps", 6, 3, -4, 4, 3), ("keeps", 3, 2, 0, 0, 1), ("cross", 0, 4, 1, 5),
+    ("centre", 0, 1, 2), ("where", 6), ("says", 13, []), ("says", 0, [0, 6]), ("all", 5), ("most", 0),
+    ("keeps", 13, 1, 0, 0, 1), ("cross", 0, 1, 2, 3), ("cross", 0, 1, 4, 6), ("centre", 0, 1, 4), ("centre", 6, 0, 1),
+]
+LOOKS_ANSWERS = [
+    1, 0, 1, 0, 1, 1, 1, 2, 1, 3, 1, 4, 1, 5,
+    5, 0, 1, 1, 0, 1, 1, 1, 1, 0, 1, 1, 7, 2, 1, 0, 5, 4, 0, 1,
+    1, 0, 5, 4, 0, 1, 4, 5, 5, 4, 0, 1, 2, 3, 1, 1, 1, 0, 3, 0, 3, 2,
+    7, 0, 1, 1, 1, 1, 2, 1, 1, -2, 1, -22, 1, -2, 1, -22, 1, -22,
+    1, -22, 1, -33, 1, -2, 1, -33, 1, -2,
+]
+
+STORIES = ((STORY, STORY_ANSWERS), (LOOKS, LOOKS_ANSWERS))
 
 
 def refuse(*given, **named):
@@ -36,7 +49,8 @@ class Told(unittest.TestCase):
         self.assertEqual(answers([0]), [1, 0])
         self.assertEqual(answers([6]), [1, -61])
         self.assertEqual(answers([0, 1, 5, 5, 1, 6, 3, 3]), [1, 0, 1, 0, 1, 1, 1, 0, 1, -2])
-        self.assertEqual(answers(flat(STORY)), STORY_ANSWERS)
+        for calls, given in STORIES:
+            self.assertEqual(answers(flat(calls)), given)
 
     def test_numbers_as_they_are_told(self):
         calls = [0, 1, 3, -4, 5, 2, 0, 3, -4, 5, 4, 1, 0, 0, 1, 0, 0, 5, 9, 1, 0, 0, 0, 1, 0, 0, 0, 1, 5, 0, 6, 3]
@@ -74,135 +88,88 @@ class Told(unittest.TestCase):
         self.assertLessEqual(len(bends), 700)
         self.assertEqual(answers(bends), [1, 0] * 60)
 
+    def test_sixty_calls_with_the_longest_answers(self):
+        start = placed(*[(-7, 5, 9)] * 10)
+        looks = [("all", kind) for kind in (2, 3, 4, 6, 10, 1, 0)] + [("most", 6), ("most", 1)]
+        looks += [("where", 9), ("centre", 0, 1, 2), ("cross", 0, 1, 2, 3), ("says", 9, [0, 1, 2, 3, 4, 5])]
+        lengths = [3961, 3961, 3961, 841, 1081, 361, 91, 11, 11, 5, 1, 1, 1]
+        calls = start + (looks * 4)[:49]
+        self.assertEqual(len(calls), 60)
+        given = split_answers(answers(flat(calls)))
+        self.assertEqual([len(answer) for answer in given[11:]], (lengths * 4)[:49])
+        for k in range(11, 60 - len(looks)):
+            self.assertEqual(given[k], given[k + len(looks)])
+        calls = start + [("all", 2)] * 49
+        given = answers(flat(calls))
+        self.assertEqual(len(given), 22 + 49 * 3962)
+        self.assertEqual(given[22:28], [3961, 990, 0, 1, 0, 2])
+        self.assertEqual(given[-4:], [7, 9, 8, 9])
+
+    def test_sixty_calls_with_large_numbers_below(self):
+        below = (997, 991, 983, 977, 971, 967, 953, 947, 941, 937)
+        start = placed(*[(k, 3 - k * k, w) for k, w in enumerate(below)]) + [("bend", [7, 0, 1, 0, 7, 1, 0, 0, 10])] * 5
+        calls = start + [("most", 6), ("all", 6), ("all", 2), ("most", 1)] * 11
+        self.assertEqual(len(calls), 60)
+        given = split_answers(answers(flat(calls)))
+        self.assertEqual(given[11:16], [[0]] * 5)
+        self.assertEqual(given[16:20], [[3, 0, 1, 2], [0], [0], [2, 0, 1]])
+        self.assertEqual(given[16:], given[16:20] * 11)
+
+    def test_ends_of_the_ranges_of_looks(self):
+        start = placed(*[(k, k * k) for k in range(10)])
+        calls = [("where", GREATEST), ("all", GREATEST), ("most", GREATEST), ("says", GREATEST, []),
+                 ("says", GREATEST, [GREATEST] * 6), ("says", 0, [GREATEST, 0]), ("says", 0, [0, GREATEST]),
+                 ("says", 5, [GREATEST] * 6), ("says", 5, [0, 0, 0, 0, GREATEST, 1]), ("says", 7, [GREATEST] * 6)]
+        answered = [-2, -22, -22, -22, -22, -2, -2, -22, -22, -2]
+        calls += [("keeps", GREATEST, LEAST, LEAST, GREATEST, GREATEST), ("keeps", 0, LEAST, 0, 0, LEAST),
+                  ("keeps", 0, 0, GREATEST, GREATEST, 0), ("keeps", GREATEST, 1, 0, 0, 1), ("keeps", 0, 0, 0, 0, 0)]
+        answered += [-22] * 5
+        calls += [("cross", GREATEST, 0, 1, 2), ("cross", 0, GREATEST, 1, 2), ("cross", 0, 1, GREATEST, 2),
+                  ("cross", 0, 1, 2, GREATEST), ("cross", 0, 0, 0, 0), ("centre", GREATEST, 0, 1),
+                  ("centre", 0, GREATEST, 1), ("centre", 0, 1, GREATEST), ("centre", 0, 0, 0)]
+        answered += [-2, -2, -2, -2, -33, -2, -2, -2, -33]
+        given = split_answers(answers(flat(start + calls)))
+        self.assertEqual(given[len(start):], [[number] for number in answered])
+        self.assertEqual(answer_after(*start, ("where", 0)), [0, 0, 1, 0, 1])
+        self.assertEqual(answer_after(*start, ("says", 0, [0, 0])), [1])
+        self.assertEqual(answer_after(*start, ("all", 0)), [0])
+
     def test_kinds_of_what_is_given_back(self):
-        given = answers(flat(STORY))
-        self.assertIs(type(given), list)
-        for number in given:
-            self.assertIs(type(number), int)
+        for calls, expected in STORIES:
+            given = answers(flat(calls))
+            self.assertIs(type(given), list)
+            self.assertEqual(len(given), len(expected))
+            for number in given:
+                self.assertIs(type(number), int)
 
 
 class Kept(unittest.TestCase):
     def test_what_is_handed_in_is_not_changed(self):
-        calls = Untouchable(flat(STORY))
-        self.assertEqual(answers(calls), STORY_ANSWERS)
-        self.assertEqual(list(calls), flat(STORY))
+        for story, given in STORIES:
+            calls = Untouchable(flat(story))
+            self.assertEqual(answers(calls), given)
+            self.assertEqual(list(calls), flat(story))
 
     def test_a_second_time(self):
-        calls = flat(STORY)
-        first = answers(calls)
-        self.assertEqual(answers(calls), first)
-        answers([0, 1, 1, 1, 1])
-        self.assertEqual(answers([6]), [1, -61])
-        self.assertEqual(answers([0, 6]), [1, 0, 1, 0])
-        self.assertEqual(answers(calls), STORY_ANSWERS)
+        for story, given in STORIES:
+            calls = flat(story)
+            self.assertEqual(answers(calls), given)
+            self.assertEqual(answers(calls), given)
+            answers([0, 1, 1, 1, 1])
+            self.assertEqual(answers([6]), [1, -61])
+            self.assertEqual(answers([9, 0]), [1, -61])
+            self.assertEqual(answers([0, 6]), [1, 0, 1, 0])
+            self.assertEqual(answers([0, 10, 6]), [1, 0, 1, 0])
+            self.assertEqual(answers(calls), given)
 
     def test_what_is_given_back_is_the_callers_own(self):
         given = answers([0, 6])
         given.clear()
         self.assertEqual(answers([0, 6]), [1, 0, 1, 0])
-
-
-class Model:
-    """The same calls, over fractions and with nothing shared with the program."""
-
-    def __init__(self):
-        self.all_places = None
-
-    def placed(self, x, y, w):
-        if max(abs(x), abs(y)) > 1000 or not 1 <= w <= 1000:
-            return None
-        return (Fraction(x, w), Fraction(y, w))
-
-    def is_too_large(self, place):
-        w = lcm(place[0].denominator, place[1].denominator)
-        return max(abs(place[0] * w), abs(place[1] * w), w) > 10 ** 9
-
-    def moved(self, rows):
-        (a, b, e), (c, d, f), (g, h, i) = rows
-        if max(abs(number) for row in rows for number in row) > 10:
-            return -22
-        if a * d * i + b * f * g + e * c * h - e * d * g - b * c * i - a * f * h == 0:
-            return -22
-        if any(g * x + h * y + i == 0 for x, y in self.all_places):
-            return -33
-        new = [((a * x + b * y + e) / (g * x + h * y + i), (c * x + d * y + f) / (g * x + h * y + i))
-               for x, y in self.all_places]
-        if any(self.is_too_large(place) for place in new):
-            return -75
-        self.all_places = new
-        return 0
-
-    def answer(self, name, *given):
-        if name == "begin":
-            self.all_places = []
-            return 0
-        if self.all_places is None:
-            return -61
-        if name == "point":
-            place = self.placed(*given)
-            if place is None:
-                return -22
-            if len(self.all_places) == 10:
-                return -28
-            self.all_places.append(place)
-            return len(self.all_places) - 1
-        if name == "put":
-            if given[0] >= len(self.all_places):
-                return -2
-            place = self.placed(*given[1:])
-            if place is None:
-                return -22
-            self.all_places[given[0]] = place
-            return 0
-        if name == "out":
-            if not self.all_places:
-                return -2
-            del self.all_places[-1]
-            return len(self.all_places)
-        if name == "slant":
-            a, b, c, d, e, f = given
-            return self.moved(((a, b, e), (c, d, f), (0, 0, 1)))
-        if name == "bend":
-            row = given[0]
-            return -22 if len(row) != 9 else self.moved((row[:3], row[3:6], row[6:]))
-        return len(self.all_places)
-
-
-def some_call(source):
-    name = source.choice(("begin", "point", "point", "point", "put", "out", "slant", "slant", "bend", "bend", "points"))
-    if name == "begin" and source.random() < 0.8:
-        name = "point"
-    far = source.choice((3, 10, 1000, 1001))
-    place = (source.randint(-far, far), source.randint(-far, far), source.choice((1, 1, 2, 5, 6, source.randint(0, far))))
-    if name == "point":
-        return (name, *place)
-    if name == "put":
-        return (name, source.randint(0, 6), *place)
-    most = source.choice((1, 2, 3, 10, 10, 11))
-    if name == "slant":
-        return (name, *[source.randint(-most, most) for k in range(6)])
-    if name == "bend":
-        count = source.choice((9,) * 12 + (8, 0, 5))
-        return (name, [source.randint(-min(most, 3 + k), min(most, 3 + k)) for k in range(count)])
-    return (name,)
-
-
-class AsTheModel(unittest.TestCase):
-    def test_many_lists(self):
-        source = random.Random(20261118)
-        seen = {}
-        for k in range(400):
-            calls = ([] if k % 7 == 0 else [("begin",)]) + [some_call(source) for number in range(40)]
-            model = Model()
-            expected = [[model.answer(*one)] for one in calls]
-            self.assertEqual(split_answers(answers(flat(calls))), expected, calls)
-            self.assertEqual(places_after(*calls), model.all_places or [], calls)
-            for one, answer in zip(calls, expected):
-                seen[(one[0], min(answer[0], 0))] = True
-        for name, refusals in (("point", (-61, -28, -22, 0)), ("put", (-61, -22, -2, 0)), ("out", (-61, -2, 0)),
-                               ("slant", (-75, -61, -22, 0)), ("bend", (-75, -61, -33, -22, 0))):
-            for refusal in refusals:
-                self.assertIn((name, refusal), seen)
+        given = answers(flat(LOOKS))
+        for k in range(len(given)):
+            given[k] = 77
+        self.assertEqual(answers(flat(LOOKS)), LOOKS_ANSWERS)
 
 
 if __name__ == "__main__":
